@@ -1,0 +1,1 @@
+"""Surer walks: how far averages along walks by chance stray, for all functions."""

@@ -1,0 +1,11 @@
+"""Integers and counts: True and False are neither."""
+
+
+def is_integer(value):
+    """Whether any value is an INTEGER."""
+    return isinstance(value, int) and not isinstance(value, bool)
+
+
+def is_count(value):
+    """Whether any value is a COUNT."""
+    return is_integer(value) and value >= 0

@@ -1,0 +1,119 @@
+"""Values of all kinds, and walks, forms and numbers to try things on."""
+
+import itertools
+import random
+
+from surerwalks.ratios import Ratio
+from surerwalks.walks import Walk, walk_of
+
+
+class Own:
+    """An object of another class; whoever asks it anything fails."""
+
+    def asked(self, *told):
+        raise AssertionError("an object that was passed was asked")
+
+    __eq__ = __len__ = __iter__ = __bool__ = __add__ = __lt__ = __getitem__ = asked
+    __hash__ = None
+
+
+def plain_kinds():
+    """Values that are neither NUMBERS nor lists nor Walks."""
+    return [True, False, None, "", "a", "1", "1/2", b"", b"1", {}, {0: 1}, {1, 2}, Own(), object(), Ratio, Walk, len]
+
+
+def numbers():
+    return [0, 1, 2, -1, 10 ** 29, Ratio(1, 2), Ratio(0), Ratio(1), Ratio(-7, 3)]
+
+
+def lists():
+    """Lists that are neither tables nor lists of two numbers or more."""
+    return [[], (), [1], (1,), [[]], [[1, 2], [3, 4], 5], [True, False], ["a", "b"], [None, None], [[True]],
+            [Own(), Own()], [[Own()]], [{}, {}], [b"a"], [Ratio(1, 2), True], [[Ratio(1, 2), False], [1, 0]]]
+
+
+def not_numbers():
+    return plain_kinds() + lists() + [lean()]
+
+
+def not_integers():
+    return not_numbers() + [Ratio(1), Ratio(0), Ratio(1, 2)]
+
+
+def not_lists():
+    return plain_kinds() + numbers() + [lean()]
+
+
+def lean():
+    return walk_of([[Ratio(1, 2), Ratio(1, 2)], [Ratio(1, 4), Ratio(3, 4)]])
+
+
+def turn():
+    return walk_of([[0, 1, 0], [0, 0, 1], [1, 0, 0]])
+
+
+def halves():
+    half = Ratio(1, 2)
+    return Walk([[half, half], [half, half]], [half, half])
+
+
+def apart():
+    return Walk([[1, 0], [0, 1]], [Ratio(1, 3), Ratio(2, 3)])
+
+
+def made(seed):
+    """A stream of numbers that is the same each time."""
+    return random.Random(seed)
+
+
+def ratio(stream, size=9):
+    return Ratio(stream.randint(-size, size), stream.randint(1, size))
+
+
+def chances(stream, places, size=5, least=0):
+    """Chances that add up to 1."""
+    while True:
+        parts = [stream.randint(least, size) for _ in range(places)]
+        if sum(parts) > 0:
+            return [Ratio(part, sum(parts)) for part in parts]
+
+
+def whole_walk(stream, places, size=4):
+    """A whole Walk: a ring through all places is among its steps."""
+    rows = [chances(stream, places, size) for _ in range(places)]
+    for place, row in enumerate(rows):
+        rows[place] = [chance.over(2) for chance in row]
+        after = (place + 1) % places
+        rows[place][after] = rows[place][after] + Ratio(1, 2)
+    return walk_of(rows)
+
+
+def any_walk(stream, places):
+    """A Walk of rings, whole or not: each order of the places keeps like shares, and so do shares of orders."""
+    orders = list(itertools.permutations(range(places)))
+    parts = chances(stream, 3, 5)
+    rows = [[Ratio(0)] * places for _ in range(places)]
+    for part in parts:
+        order = stream.choice(orders)
+        for place in range(places):
+            rows[place][order[place]] = rows[place][order[place]] + part
+    return Walk(rows, [Ratio(1, places)] * places)
+
+
+def walks(seed, most=5):
+    """Whole walks of two to so many places."""
+    stream = made(seed)
+    return [whole_walk(stream, places) for places in range(2, most + 1) for _ in range(3)]
+
+
+def function(stream, places):
+    return [ratio(stream) for _ in range(places)]
+
+
+def digits(value):
+    """The most digits of an INTEGER in a value, also above or below a stroke."""
+    if isinstance(value, Ratio):
+        return max(digits(value.top), digits(value.bottom))
+    if isinstance(value, (list, tuple)):
+        return max([digits(part) for part in value], default=0)
+    return len(str(abs(value)))
