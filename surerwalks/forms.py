@@ -167,7 +167,7 @@ def _near_squares(rows, bits):
     None if there are too few bits.
     """
     # The diagonal gets a bit less, so that the rest has more in the diagonal than beside it.
-    less = power_of_two(-(bits // 2))
+    less = power_of_two(16 - bits)
     left = [
         [chopped(number, 2 * bits) - (less if i == j else 0) for j, number in enumerate(row)]
         for i, row in enumerate(rows)

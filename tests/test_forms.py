@@ -154,6 +154,53 @@ class TestSquares(unittest.TestCase):
                 self.assertEqual(worth(one, under).sign, -1)
                 self.assertLessEqual(digits(under), 2000)
 
+    def test_long_numbers_nearly_flat(self):
+        """So near to a form that has no inverse that squares need many digits, and so do lists below."""
+        stream = made(20)
+        size = 10 ** 300
+        for rows, power in ((2, 12), (3, 20), (5, 30), (6, 60)):
+            lines = [[Ratio(stream.randint(-size, size), size) for _ in range(rows)] for _ in range(rows - 1)]
+            for row in lines:
+                row[0] = row[0] * Ratio(10 ** 9, 10 ** 9 + stream.randint(1, 99))
+            flat = added([(Ratio(1), line) for line in lines], rows)
+            tiny = Ratio(1, 10 ** power)
+            for less in (tiny, -tiny):
+                one = [[number - (less if i == j else 0) for j, number in enumerate(row)] for i, row in enumerate(flat)]
+                self.assertIs(is_never_below(one), less.sign < 0)
+                if less.sign < 0:
+                    self.assert_squares_of(one, squares(one))
+                else:
+                    under = below(one)
+                    self.assertEqual(worth(one, under).sign, -1)
+                    self.assertLessEqual(digits(under), 2000)
+
+    def test_long_lists_below(self):
+        stream = made(23)
+        size = 10 ** 450
+        lines = [[Ratio(stream.randint(-size, size), size) for _ in range(6)] for _ in range(5)]
+        one = added([(Ratio(1), line) for line in lines], 6)
+        one[5][5] = one[5][5] - Ratio(1, 10 ** 8)
+        under = below(one)
+        self.assertEqual(worth(one, under).sign, -1)
+        self.assertEqual({number.sign for number in under}, {1, -1})
+        self.assertLessEqual(digits(under), 2000)
+
+    def test_noughts_in_the_diagonal(self):
+        stream = made(24)
+        for rows in range(2, 8):
+            for _ in range(30):
+                one = form(stream, rows, 4)
+                for i in range(rows):
+                    one[i][i] = Ratio(stream.choice([0, 0, 0, 5, -1])) if i else Ratio(0)
+                    for j in range(i):
+                        one[i][j] = one[j][i] = one[i][j] * stream.choice([0, 1])
+                parts, under = squares(one), below(one)
+                self.assertIs(parts is None, under is not None)
+                if parts is None:
+                    self.assertEqual(worth(one, under).sign, -1)
+                else:
+                    self.assert_squares_of(one, parts)
+
     def test_differences_of_error_tables(self):
         stream = made(15)
         for places in (3, 4, 5, 6):

@@ -4,7 +4,7 @@ import itertools
 import unittest
 
 from kinds import any_walk, apart, chances, lean, lists, made, not_integers, not_lists, not_numbers, turn, walks
-from refusals import assert_refusals, assert_same_by_name
+from refusals import assert_refusals, assert_refused, assert_same_by_name
 from surerwalks.errors import InvalidMany, InvalidOrder, InvalidPart, InvalidRows, InvalidShares, InvalidWalk
 from surerwalks.errors import NotWhole, UnlikePlaces, UnlikeShares
 from surerwalks.flows import with_ring
@@ -87,6 +87,9 @@ class TestWalk(unittest.TestCase):
         assert_refusals(self, Walk, [
             ("rows", lean().rows(), InvalidRows, WRONG_ROWS), ("shares", lean().shares(), InvalidShares, WRONG_SHARES),
         ])
+        # Shares that the rows keep, but one of them is 0, or below it.
+        for rows, shares in [([[1, 0], [HALF, HALF]], [1, 0]), ([[1, 0], [0, 1]], [0, 1]), ([[1, 0], [0, 1]], [2, -1])]:
+            assert_refused(self, InvalidShares, shares, lambda: Walk(rows, shares))
         walk = Walk(shares=(Ratio(1, 3), Ratio(2, 3)), rows=((HALF, HALF), (Ratio(1, 4), Ratio(3, 4))))
         self.assertEqual(walk, lean())
 
