@@ -162,11 +162,12 @@ def _short_squares(rows, kept):
 
 
 def _near_squares(rows, bits):
-    """Squares of a form above 0 with so many bits behind the point, and squares of the small rest.
+    """Squares of a form above 0, with so many bits behind the point, and squares of the small rest.
 
-    None if there are too few bits.
+    None if there are too few bits. The numbers in the diagonal are from 1/2 to 4.
     """
-    # The diagonal gets a bit less, so that the rest has more in the diagonal than beside it.
+    # The diagonal gets a bit less: 16 shares. The numbers there are below 4, so that all that is cut off
+    # from one beside it is less than 5 times 2 ** -bits, and that is less than a share.
     less = power_of_two(16 - bits)
     left = [
         [chopped(number, 2 * bits) - (less if i == j else 0) for j, number in enumerate(row)]
@@ -183,14 +184,14 @@ def _near_squares(rows, bits):
         left = [[number - size * line[i] * line[j] for j, number in enumerate(row)] for i, row in enumerate(left)]
     near = _added_up(parts, len(rows))
     rest = [[number - other for number, other in zip(row, told)] for row, told in zip(rows, near)]
-    small = _rest_squares(rest, less * power_of_two(-4))
-    return None if small is None else parts + small
+    return parts + _rest_squares(rest, less.over(16))
 
 
 def _rest_squares(rest, share):
-    """Squares of a form with at least this share in the diagonal for each number beside it; else None.
+    """Squares of a form with at least this share in the diagonal for each number beside it.
 
-    What the diagonal has left is not added up: a sum of long fractions is longer than they are.
+    No number beside the diagonal is, without its sign, greater than the share. What the diagonal has left is
+    not added up to one number: a sum of long fractions is longer than they are.
     """
     many = len(rest)
     units = unit_rows(many)
@@ -201,8 +202,6 @@ def _rest_squares(rest, share):
             parts.append((row[j].size(), line))
         for j, number in enumerate(row):
             spare = number - share * (many - 1) if i == j else share - number.size()
-            if spare.sign < 0:
-                return None
             parts.append((spare, units[i]))
     return [(size, list(line)) for size, line in parts if size.sign > 0]
 

@@ -174,6 +174,18 @@ class TestSquares(unittest.TestCase):
                     self.assertEqual(worth(one, under).sign, -1)
                     self.assertLessEqual(digits(under), 2000)
 
+    def test_long_numbers_beside_noughts(self):
+        """Ever nearer to a flat form, and noughts beside the diagonal: no square has the Ratio 0 or one below it."""
+        size = 10 ** 600
+        line = [Ratio(size // 3, size), Ratio(size // 7 * 6, size + 1), Ratio(size // 9 * 11, size + 2)]
+        for power in range(36, 66):
+            one = [[Ratio(0)] * 5 for _ in range(5)]
+            for i in range(3):
+                for j in range(3):
+                    one[i][j] = line[i] * line[j] + (Ratio(1, 2 ** power) if i == j else 0)
+            one[3][3], one[4][4] = Ratio(size + 7, size), Ratio(2)
+            self.assert_squares_of(one, squares(one))
+
     def test_long_lists_below(self):
         stream = made(23)
         size = 10 ** 450

@@ -4,7 +4,7 @@ import operator
 import unittest
 from fractions import Fraction
 
-from kinds import Own, lean, lists, made, not_integers, not_numbers, numbers, plain_kinds
+from kinds import Own, lean, made, not_integers, not_numbers, numbers, plain_kinds
 from refusals import assert_refused
 from surerwalks.basics import is_count, is_integer
 from surerwalks.errors import DividedByZero, InvalidNumber
@@ -147,7 +147,6 @@ class TestRatio(unittest.TestCase):
         for value in not_numbers():
             assert_refused(self, InvalidNumber, value, lambda: Ratio.total([1, value, None]))
             assert_refused(self, InvalidNumber, value, lambda: Ratio.total(numbers=(value,)))
-        self.assertTrue(lists())
 
     def test_texts(self):
         for top, bottom, told, shown in [

@@ -150,14 +150,12 @@ class TestErrorTables(unittest.TestCase):
             self.assertEqual(error(lazy(walk, part), worths), told)
 
     def test_backwards_and_half_back(self):
-        stream = made(51)
         for walk in walks(52):
             half = error_table(mixed(walk, backwards(walk), HALF))
             more = [[one - two for one, two in zip(*rows)] for rows in zip(half, error_table(walk))]
             self.assertIs(is_never_below(more), True)
             flat = [[Ratio(0)] * walk.places for _ in range(walk.places)]
             self.assertIs(more == flat, backwards(walk) == walk)
-        self.assertTrue(stream)
 
     def test_not_whole(self):
         stream = made(53)
