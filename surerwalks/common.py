@@ -127,6 +127,34 @@ def solved(rows, rights):
     return [[Ratio(top, last) for top in row[many:]] for row in left]
 
 
+def less(rows, others):
+    """A table less another one, entry by entry."""
+    return [[one - other for one, other in zip(row, line)] for row, line in zip(rows, others)]
+
+
+def times(rows, number):
+    """A table times a NUMBER, entry by entry."""
+    return [[number * one for one in row] for row in rows]
+
+
+def blended(rows, others, part):
+    """The part, a Ratio, times a table, and the rest times another one, added entry by entry."""
+    rest = 1 - part
+    return [[part * one + rest * two for one, two in zip(row, line)] for row, line in zip(rows, others)]
+
+
+def sums_to_come(rows, worths):
+    """For each place the mean of the sum of the worths met from there on, and that of the square of this sum.
+
+    A tuple of both lists. The rows tell the chances to go on; where they lack of 1, the way ends.
+    """
+    going = less(unit_rows(len(rows)), rows)
+    firsts = [row[0] for row in solved(going, [[number] for number in worths])]
+    # What comes behind the first worth is the sum less this worth: it counts twice with it.
+    squared = [[number * (2 * first - number)] for number, first in zip(worths, firsts)]
+    return firsts, [row[0] for row in solved(going, squared)]
+
+
 def is_short(numbers):
     """Whether no INTEGER of these Ratios has more than 2,000 digits."""
     return all([max(abs(number.top), number.bottom).bit_length() <= SHORT_BITS for number in numbers])

@@ -67,15 +67,14 @@ def ahead(walk, function):
     worths = function_of(walk, function)
     check_whole(walk)
     offs = _offs(walk, worths)
-    return [dot(row, offs) for row in _summed(walk)]
+    return [dot(row, offs) for row in _summed(walk.rows(), walk.shares())]
 
 
-def _summed(walk):
+def _summed(rows, shares):
     """The inverse of 1 less the rows, with the shares added to each row."""
-    shares = walk.shares()
     return inverse([
         [one - chance + share for one, chance, share in zip(unit, row, shares)]
-        for unit, row in zip(unit_rows(walk.places), walk.rows())
+        for unit, row in zip(unit_rows(len(rows)), rows)
     ])
 
 
@@ -83,9 +82,13 @@ def error_table(walk):
     """The form whose worth at a function is the limit of steps times the mean square of averages off the mean."""
     check_walk(walk)
     check_whole(walk)
-    weighed = [[share * number for number in row] for share, row in zip(walk.shares(), _summed(walk))]
-    shares = walk.shares()
-    units = unit_rows(walk.places)
+    return error_rows(walk.rows(), walk.shares())
+
+
+def error_rows(rows, shares):
+    """The error table of up to twelve rows of chances that keep these shares alone."""
+    weighed = [[share * number for number in row] for share, row in zip(shares, _summed(rows, shares))]
+    units = unit_rows(len(rows))
     return [
         [
             weighed[x][y] + weighed[y][x] - share * (units[x][y] + other)

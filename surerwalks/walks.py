@@ -1,7 +1,7 @@
 """Walks: their rows and shares, closed lots, walks backwards, put together, renamed."""
 
 from surerwalks.basics import is_count
-from surerwalks.common import chances_of, flipped, is_list, multiplied, places_of, solved, unit_rows
+from surerwalks.common import blended, chances_of, flipped, is_list, multiplied, places_of, solved, unit_rows
 from surerwalks.errors import InvalidMany, InvalidOrder, InvalidPart, InvalidRows, InvalidShares, InvalidWalk
 from surerwalks.errors import NotWhole, UnlikePlaces, UnlikeShares
 from surerwalks.ratios import Ratio, is_number, ratio_of
@@ -15,7 +15,7 @@ class Walk:
     """Rows of chances, and shares that they keep. It never changes."""
 
     def __init__(self, rows, shares):
-        chances = _chance_rows(rows)
+        chances = chance_rows(rows)
         if chances is None:
             raise InvalidRows(rows)
         kept = chances_of(shares, len(chances))
@@ -40,7 +40,7 @@ class Walk:
         return isinstance(other, Walk) and self._rows == other._rows and self._shares == other._shares
 
 
-def _chance_rows(value):
+def chance_rows(value):
     """The rows of a walk, as Ratios, None of any other value."""
     if not is_list(value) or len(value) < LEAST_PLACES or len(value) > MOST_PLACES:
         return None
@@ -80,7 +80,7 @@ def part_of(value):
 
 def walk_of(rows):
     """The Walk of these rows with their only shares."""
-    chances = _chance_rows(rows)
+    chances = chance_rows(rows)
     if chances is None:
         raise InvalidRows(rows)
     if _left_lot(chances) is not None:
@@ -165,12 +165,7 @@ def mixed(walk, other, part):
 
 
 def _mixed(walk, other, part):
-    rest = 1 - part
-    rows = [
-        [part * one + rest * two for one, two in zip(row, line)]
-        for row, line in zip(walk.rows(), other.rows())
-    ]
-    return Walk(rows, walk.shares())
+    return Walk(blended(walk.rows(), other.rows(), part), walk.shares())
 
 
 def lazy(walk, part):

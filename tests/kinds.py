@@ -117,3 +117,85 @@ def digits(value):
     if isinstance(value, (list, tuple)):
         return max([digits(part) for part in value], default=0)
     return len(str(abs(value)))
+
+
+def ring_walk(places):
+    """The walk that goes from each place to the next one, and from the last one to the first one."""
+    return walk_of([[int(j == (i + 1) % places) for j in range(places)] for i in range(places)])
+
+
+def mixed_walk(walk, other, part):
+    """Both mixed, made of their rows."""
+    rows = [
+        [part * one + (1 - part) * two for one, two in zip(row, line)]
+        for row, line in zip(walk.rows(), other.rows())
+    ]
+    return Walk(rows, walk.shares())
+
+
+def backed(walk):
+    """The walk backwards, made of its rows."""
+    places, shares, rows = range(walk.places), walk.shares(), walk.rows()
+    return Walk([[(shares[j] * rows[j][i]).over(shares[i]) for j in places] for i in places], shares)
+
+
+def drawn(walk):
+    """The walk that draws its place anew by the shares."""
+    return Walk([walk.shares()] * walk.places, walk.shares())
+
+
+def stayed(walk, part):
+    """The walk that stays by the part."""
+    stays = Walk([[int(i == j) for j in range(walk.places)] for i in range(walk.places)], walk.shares())
+    return mixed_walk(stays, walk, part)
+
+
+def even_walk(stream, shares):
+    """A whole walk with these shares that is alike backwards."""
+    places = range(len(shares))
+    rows = [[Ratio(0) for _ in places] for _ in places]
+    for i in places:
+        for j in range(i):
+            least = shares[i] if shares[i].is_below(shares[j]) else shares[j]
+            much = least * Ratio(stream.randint(1 if i == j + 1 else 0, 5), 5 * len(shares))
+            rows[i][j], rows[j][i] = much.over(shares[i]), much.over(shares[j])
+    for i in places:
+        rows[i][i] = 1 - Ratio.total(rows[i])
+    return Walk(rows, shares)
+
+
+def even_pairs(seed, most=6):
+    """Pairs of whole walks with like shares, all of them alike backwards."""
+    stream = made(seed)
+    found = []
+    for places in range(2, most + 1):
+        for _ in range(5):
+            shares = chances(stream, places, 4, 1)
+            one = even_walk(stream, shares)
+            found.append((one, even_walk(stream, shares)))
+            found.append((drawn(one), one))
+    return found
+
+
+def like_pairs(seed, most=6):
+    """Pairs of whole walks with as many places and like shares, alike backwards or not."""
+    stream = made(seed)
+    found = []
+    for places in range(2, most + 1):
+        walk = whole_walk(stream, places)
+        half = mixed_walk(walk, backed(walk), Ratio(1, 2))
+        round_trip = ring_walk(places)
+        one = mixed_walk(any_walk(stream, places), round_trip, Ratio(2, 3))
+        two = mixed_walk(any_walk(stream, places), round_trip, Ratio(3, 4))
+        found += [(walk, walk), (walk, backed(walk)), (walk, half), (walk, drawn(walk)), (walk, stayed(walk, Ratio(1, 3))),
+                  (one, two), (one, round_trip), (two, backed(one))]
+    return found
+
+
+def six_digits(stream, places):
+    """A whole walk whose chances have six digits above and below the stroke."""
+    rows = []
+    for _ in range(places):
+        row = [Ratio(stream.randint(1, 999999 // places), stream.randint(900000, 999999)) for _ in range(places - 1)]
+        rows.append(row + [1 - Ratio.total(row)])
+    return walk_of(rows)

@@ -1,6 +1,10 @@
 """One way to test what a function refuses: each parameter, in its sequence, by position and by name."""
 
+import copy
+
+from surerwalks.errors import UnlikePlaces, UnlikeShares
 from surerwalks.ratios import Ratio
+from surerwalks.walks import Walk, walk_of
 
 
 def tupled(value):
@@ -52,3 +56,41 @@ def assert_ratios(test, value):
             assert_ratios(test, part)
     else:
         test.assertIs(type(value), Ratio)
+
+
+def spoil(value):
+    """Changes all lists of a returned value."""
+    if isinstance(value, (list, tuple)):
+        for part in value:
+            spoil(part)
+    if isinstance(value, list):
+        value.append("spoiled")
+        value[0] = "spoiled"
+
+
+def assert_pure(test, asked, *passed):
+    """What is handed in is not changed, what is told is new, and the same call tells the same again."""
+    kept = copy.deepcopy(passed)
+    first = asked(*passed)
+    told = copy.deepcopy(first)
+    test.assertEqual(passed, kept)
+    spoil(first)
+    test.assertEqual(passed, kept)
+    second = asked(*passed)
+    test.assertEqual(second, told)
+    test.assertIs(type(second), type(told))
+    return second
+
+
+def assert_unlike(test, asked, *rest):
+    """Two walks are refused that have not as many places, else unlike shares; ahead of that nothing of being whole."""
+    half, third = Ratio(1, 2), Ratio(1, 3)
+    walk, long = walk_of([[0, 1], [1, 0]]), walk_of([[0, 1, 0], [0, 0, 1], [1, 0, 0]])
+    stays, other = Walk([[1, 0], [0, 1]], [half, half]), Walk([[1, 0], [0, 1]], [third, 1 - third])
+    for first, second, error in [
+        (walk, long, UnlikePlaces), (long, walk, UnlikePlaces), (stays, long, UnlikePlaces), (long, other, UnlikePlaces),
+        (walk, other, UnlikeShares), (other, walk, UnlikeShares), (stays, other, UnlikeShares), (other, stays, UnlikeShares),
+    ]:
+        with test.assertRaises(error) as caught:
+            asked(first, second, *rest)
+        test.assertIs(type(caught.exception), error)
