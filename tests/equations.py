@@ -15,7 +15,7 @@ def plains(numbers):
 def solve(rows, rights):
     """The only list of numbers that the rows, number by number, add up with to the rights."""
     many = len(rows)
-    left = [list(row) + [right] for row, right in zip(rows, rights)]
+    left = [[Fraction(number) for number in row] + [Fraction(right)] for row, right in zip(rows, rights)]
     for at in range(many):
         found = next(i for i in range(at, many) if left[i][at] != 0)
         left[at], left[found] = left[found], left[at]

@@ -199,3 +199,18 @@ def six_digits(stream, places):
         row = [Ratio(stream.randint(1, 999999 // places), stream.randint(900000, 999999)) for _ in range(places - 1)]
         rows.append(row + [1 - Ratio.total(row)])
     return walk_of(rows)
+
+
+def proposal(stream, places, size=4):
+    """Chances from each place, many of them 0: places are proposed there alone, back alone, both or neither."""
+    return [chances(stream, places, stream.choice([1, size])) for _ in range(places)]
+
+
+def weights(stream, places):
+    return [Ratio(stream.randint(1, 9), stream.randint(1, 5)) for _ in range(places)]
+
+
+def proposals(seed, most=6, times=6):
+    """Proposals with weights, of two to so many places."""
+    stream = made(seed)
+    return [(proposal(stream, places), weights(stream, places)) for places in range(2, most + 1) for _ in range(times)]

@@ -153,7 +153,8 @@ class TestMeetings(unittest.TestCase):
         stream = made(73)
         met = {True: 0, False: 0}
         third = Ratio(1, 3)
-        lots = Walk([[HALF, HALF, 0, 0], [HALF, HALF, 0, 0], [0, 0, third, 1 - third], [0, 0, 1 - third, third]], [Ratio(1, 4)] * 4)
+        lots = Walk([[HALF, HALF, 0, 0], [HALF, HALF, 0, 0], [0, 0, third, 1 - third], [0, 0, 1 - third, third]],
+                    [Ratio(1, 4)] * 4)
         some = [apart(), lots, power(turn(), 3), mixed_walk(lots, power(lots, 0), Ratio(2, 5))]
         some += [any_walk(stream, places) for places in (2, 3, 4, 5, 6) for _ in range(4)]
         for walk in some:

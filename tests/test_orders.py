@@ -192,9 +192,12 @@ class TestJudges(unittest.TestCase):
             self.assertIs(is_surer_paper(swap, fair, value), True)
             self.assertIs(is_surer_paper(fair, swap, value), False)
         for value in [[(Ratio(1, 5), [1, -1])], [(fourth, [1, 1])], [(fourth, [1, -1]), (1, [1, 0])], [], [[fourth, [1, -1]]],
-                      [(fourth, [1, -1], 0)], [(fourth, [1])], [(fourth, [1, -1, 0])], [(fourth, [True, -1])], [(True, [HALF, -HALF])],
-                      (fourth, [1, -1]), [(fourth, [1, None])], [(fourth, "1-")], [(fourth, {0: 1, 1: -1})], [(-fourth, [1, -1])],
-                      [(fourth, [1, -1]), (0, [1, 1])], {0: (fourth, [1, -1])}, [(str(fourth), [1, -1])], [(fourth, [1, Own()])],
+                      [(fourth, [1, -1], 0)], [(fourth, [1])], [(fourth, [1, -1, 0])], [(fourth, [True, -1])],
+                      [(True, [HALF, -HALF])],
+                      (fourth, [1, -1]), [(fourth, [1, None])], [(fourth, "1-")], [(fourth, {0: 1, 1: -1})],
+                      [(-fourth, [1, -1])],
+                      [(fourth, [1, -1]), (0, [1, 1])], {0: (fourth, [1, -1])}, [(str(fourth), [1, -1])],
+                      [(fourth, [1, Own()])],
                       [(Own(), [1, -1])], [Own()], [(fourth, Own())], [(10 ** 199, [10 ** 199, -10 ** 199])], [None]]:
             self.assertIs(is_surer_paper(swap, fair, value), False)
 
@@ -208,8 +211,10 @@ class TestJudges(unittest.TestCase):
             self.assertIs(is_surer_paper(walk, other, parts + parts[:1]), False)
             self.assertIs(is_surer_paper(walk, other, parts[1:]), False)
             for at, (size, line) in enumerate(parts):
-                for part in [(size + 1, line), (size, line[:-1]), (size, line + [0]), (-size, line), [size, line], (line, size),
-                             (size, line[:-1] + [line[-1] + 1]), (size,), (size, line, line), (size, None), None, (size, str(line))]:
+                for part in [(size + 1, line), (size, line[:-1]), (size, line + [0]), (-size, line), [size, line],
+                             (line, size),
+                             (size, line[:-1] + [line[-1] + 1]), (size,), (size, line, line), (size, None), None,
+                             (size, str(line))]:
                     self.assertIs(is_surer_paper(walk, other, parts[:at] + [part] + parts[at + 1:]), False)
 
     def test_functions(self):
@@ -217,7 +222,8 @@ class TestJudges(unittest.TestCase):
         for value in [[0, 1], (0, 1), [HALF, 0], (Ratio(3), -4), [10 ** 199, 1]]:
             self.assertIs(is_worse_paper(fair, swap, value), True)
             self.assertIs(is_worse_paper(swap, fair, value), False)
-        for value in [[1, 1], [0, 0], [0], [0, 1, 0], [False, True], [0, True], [0, None], [0, "1"], "01", {0: 0, 1: 1}, [[0, 1]], [(0, 1)],
+        for value in [[1, 1], [0, 0], [0], [0, 1, 0], [False, True], [0, True], [0, None], [0, "1"], "01",
+                      {0: 0, 1: 1}, [[0, 1]], [(0, 1)],
                       [0, Own()], [Own(), Own()], [[0], [1]], [0, [1]]]:
             self.assertIs(is_worse_paper(fair, swap, value), False)
 
@@ -233,7 +239,8 @@ class TestJudges(unittest.TestCase):
         for walk, other in both_ways(like_pairs(98, 5)):
             worths = worse_function(walk, other)
             if worths is not None:
-                for value in [worths[:-1], worths + [0], [worths], [0] * walk.places, dict(enumerate(worths)), worths[:-1] + [None]]:
+                for value in [worths[:-1], worths + [0], [worths], [0] * walk.places, dict(enumerate(worths)),
+                              worths[:-1] + [None]]:
                     self.assertIs(is_worse_paper(walk, other, value), False)
 
 

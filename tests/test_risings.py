@@ -106,13 +106,16 @@ class TestRising(unittest.TestCase):
 
     def test_judge(self):
         lot, line = walk_of([[Ratio(1, 3)] * 3] * 3), walk_of([[HALF, HALF, 0], [HALF, 0, HALF], [0, HALF, HALF]])
-        for value in [[0, 1, 2], (0, 1, 2), [Ratio(-1), Ratio(1, 2), 2], [-3, 0, 3], [5, 6, 7], [0, 10 ** 199, 2 * 10 ** 199], [0, 0, 1]]:
+        for value in [[0, 1, 2], (0, 1, 2), [Ratio(-1), Ratio(1, 2), 2], [-3, 0, 3], [5, 6, 7],
+                      [0, 10 ** 199, 2 * 10 ** 199], [0, 0, 1]]:
             self.assertIs(is_worse_rising_paper(line, lot, value), True)
             self.assertIs(is_worse_rising_paper(lot, line, value), False)
         # A function that falls has the same error, and is no paper.
         self.assertIs(is_worse_paper(line, lot, [2, 1, 0]), True)
-        for value in [[2, 1, 0], [0, 0, 0], [1, 1, 1], [0, 1], [0, 1, 2, 3], [0, True, 2], [False, 1, 2], [0, 1, None], [0, 1, "2"], "012",
-                      {0: 0, 1: 1, 2: 2}, [[0, 1, 2]], [(0, 1, 2)], [0, 1, [2]], [0, 2, 1], [0, -1, 9], [0, 1, Own()], [Own()] * 3, Own()]:
+        for value in [[2, 1, 0], [0, 0, 0], [1, 1, 1], [0, 1], [0, 1, 2, 3], [0, True, 2], [False, 1, 2],
+                      [0, 1, None], [0, 1, "2"], "012",
+                      {0: 0, 1: 1, 2: 2}, [[0, 1, 2]], [(0, 1, 2)], [0, 1, [2]], [0, 2, 1], [0, -1, 9], [0, 1, Own()],
+                      [Own()] * 3, Own()]:
             self.assertIs(is_worse_rising_paper(line, lot, value), False)
         for value in not_lists() + lists() + [lot, [lot] * 3, ((),)]:
             self.assertIs(is_worse_rising_paper(line, lot, value), False)
@@ -123,7 +126,8 @@ class TestRising(unittest.TestCase):
             worths = worse_rising(walk, other)
             if worths is not None:
                 for value in [worths[:-1], worths + [worths[-1]], [worths], worths[::-1], [worths[-1]] * walk.places,
-                              worths[:-1] + [None], worths[:-1] + [True], dict(enumerate(worths)), worths[:-1] + [worths[0] - 1]]:
+                              worths[:-1] + [None], worths[:-1] + [True], dict(enumerate(worths)),
+                              worths[:-1] + [worths[0] - 1]]:
                     self.assertIs(is_worse_rising_paper(walk, other, value), False)
                 self.assertIs(is_worse_rising_paper(walk, other, [3 * number - 7 for number in worths]), True)
 
