@@ -3,7 +3,7 @@
 from surerwalks.common import blended
 from surerwalks.ratios import Ratio
 from surerwalks.strays import error_table
-from surerwalks.walks import backwards, check_pair, check_walk, check_whole, mixed, part_of
+from surerwalks.walks import backwards, check_pair, check_walk, mixed, part_of
 
 
 def half_back(walk):
@@ -22,6 +22,4 @@ def mixed_table(walk, other, part):
     check_walk(other)
     first = part_of(part)
     check_pair(walk, other)
-    check_whole(walk)
-    check_whole(other)
     return blended(error_table(walk), error_table(other), first)

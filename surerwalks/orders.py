@@ -6,7 +6,7 @@ from surerwalks.flows import flow
 from surerwalks.forms import are_squares, below, is_never_below, squares, worth_at
 from surerwalks.ratios import Ratio, is_number, ratio_of
 from surerwalks.strays import error_table
-from surerwalks.walks import check_pair, check_walk, check_whole
+from surerwalks.walks import check_pair, check_walk
 
 
 def difference(walk, other):
@@ -19,8 +19,6 @@ def difference(walk, other):
 def _costly_difference(walk, cost, other, other_cost):
     """The other one's cost times its error table, less the same of the walk."""
     check_pair(walk, other)
-    check_whole(walk)
-    check_whole(other)
     return less(times(error_table(other), other_cost), times(error_table(walk), cost))
 
 

@@ -33,6 +33,12 @@ def _flows(rows, weights):
     return [[share * chance for chance in row] for share, row in zip(shares_of(weights), rows)]
 
 
+def _flows_of(proposal, weights):
+    """The same of what was passed; what is not valid is refused."""
+    rows = proposal_of(proposal)
+    return _flows(rows, weights_of(weights, len(rows)))
+
+
 def _as_rule(value, flows):
     """The rows of a rule for the flows proposed, None of any other value."""
     many = len(flows)
@@ -47,33 +53,28 @@ def _as_rule(value, flows):
 
 def is_rule(proposal, weights, value):
     """Whether any value is a rule."""
-    rows = proposal_of(proposal)
-    return _as_rule(value, _flows(rows, weights_of(weights, len(rows)))) is not None
+    return _as_rule(value, _flows_of(proposal, weights)) is not None
 
 
 def greatest_rule(proposal, weights):
     """The rule that takes with the flow proposed back over that there, at most 1."""
-    rows = proposal_of(proposal)
-    flows = _flows(rows, weights_of(weights, len(rows)))
+    flows = _flows_of(proposal, weights)
     return _made(flows, lambda there, back: back.over(there) if back.is_below(there) else Ratio(1))
 
 
 def half_rule(proposal, weights):
     """The rule that takes with the flow proposed back over the sum of both."""
-    rows = proposal_of(proposal)
-    flows = _flows(rows, weights_of(weights, len(rows)))
-    return _made(flows, lambda there, back: back.over(there + back))
+    return _made(_flows_of(proposal, weights), lambda there, back: back.over(there + back))
 
 
 def _made(flows, chance):
     """The rule that takes by the flows there and back; 0 where one stays, and where nothing is proposed."""
-    many = range(len(flows))
     return [
         [
-            chance(flows[i][j], flows[j][i]) if i != j and flows[i][j].sign > 0 else Ratio(0)
-            for j in many
+            chance(there, flows[j][i]) if i != j and there.sign > 0 else Ratio(0)
+            for j, there in enumerate(row)
         ]
-        for i in many
+        for i, row in enumerate(flows)
     ]
 
 

@@ -145,15 +145,20 @@ class TestRising(unittest.TestCase):
 
     def test_long_functions_are_shortened(self):
         """Where the worths that are found first are too long, near ones are told."""
-        with mock.patch("surerwalks.risings.is_short", lambda numbers: False):
-            met = 0
-            for walk, other in both_ways(like_pairs(117)):
-                worths = worse_rising(walk, other)
-                if worths is not None:
-                    met += 1
-                    self.assert_worse(walk, other, worths)
-                    self.assertLessEqual(digits(worths), 20)
-            self.assertGreater(met, 10)
+        stream = made(1)
+        pairs = like_pairs(117)
+        for walk in [six_digits(stream, 3) for _ in range(30)]:
+            pairs += [(walk, drawn(walk)), (walk, stayed(walk, Ratio(1, 3))), (walk, mixed_walk(walk, backed(walk), HALF))]
+        met = {True: 0, False: 0}
+        for walk, other in both_ways(pairs):
+            first = worse_rising(walk, other)
+            if first is not None:
+                with mock.patch("surerwalks.risings.is_short", lambda numbers: False):
+                    worths = worse_rising(walk, other)
+                met[digits(first) > 20] += 1
+                self.assert_worse(walk, other, worths)
+                self.assertLessEqual(digits(worths), 20)
+        self.assertGreater(min(met.values()), 0)
 
 
 class TestAfter(unittest.TestCase):
