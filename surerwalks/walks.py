@@ -83,7 +83,7 @@ def walk_of(rows):
     chances = chance_rows(rows)
     if chances is None:
         raise InvalidRows(rows)
-    if _left_lot(chances) is not None:
+    if left_lot(chances) is not None:
         raise NotWhole()
     return Walk(chances, _only_shares(chances))
 
@@ -97,7 +97,7 @@ def _only_shares(rows):
     return [row[0] for row in found]
 
 
-def _left_lot(rows):
+def left_lot(rows):
     """The places that one can come to from some place, if these are not all, None if there is no such place."""
     for place in range(len(rows)):
         lot = _reached(rows, place)
@@ -122,7 +122,7 @@ def _reached(rows, place):
 def closed_lot(walk):
     """A closed lot of its places, None if the walk is whole."""
     check_walk(walk)
-    return _left_lot(walk.rows())
+    return left_lot(walk.rows())
 
 
 def is_whole(walk):

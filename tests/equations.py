@@ -39,3 +39,14 @@ def sums_on_the_way(steps, worths):
         for one in states
     ]
     return first, dict(zip(states, solve(rows, rights)))
+
+
+def told_error(rows, shares, worths):
+    """By what the walk is ahead by: the mean of the square of how far each step strays from what is expected."""
+    places = range(len(rows))
+    middle = sum(share * number for share, number in zip(shares, worths))
+    # One equation follows from the others: that the mean is 0 stands in its place.
+    even = [[int(i == j) - rows[i][j] for j in places] for i in places]
+    ahead = solve(even[:-1] + [shares], [number - middle for number in worths[:-1]] + [0])
+    nexts = [sum(rows[i][j] * ahead[j] for j in places) for i in places]
+    return sum(shares[i] * rows[i][j] * (ahead[j] - nexts[i]) ** 2 for i in places for j in places)

@@ -214,3 +214,28 @@ def proposals(seed, most=6, times=6):
     """Proposals with weights, of two to so many places."""
     stream = made(seed)
     return [(proposal(stream, places), weights(stream, places)) for places in range(2, most + 1) for _ in range(times)]
+
+
+def guess(stream, most=4, size=6):
+    """A guess of one to so many worths, the first of them 0 now and then."""
+    many = stream.randint(1, most)
+    drawn_by = chances(stream, many, size, 1)
+    worths = sorted(stream.sample(range(size * 2), many))
+    middle = Ratio.total([chance * worth for chance, worth in zip(drawn_by, worths)])
+    if middle.sign == 0:
+        return [(Ratio(1), Ratio(1))]
+    return [(chance, Ratio(worth).over(middle)) for chance, worth in zip(drawn_by, worths)]
+
+
+def more_spread(stream, told):
+    """A guess that is more spread: one worth of this one is put aside to both sides, the least one down to 0 perhaps."""
+    if len(told) > 3:
+        return told
+    at = stream.choice([i for i, (_, worth) in enumerate(told) if worth.sign > 0])
+    chance, worth = told[at]
+    room = worth - told[at - 1][1] if at > 0 else worth
+    wide = at == 0
+    if at + 1 < len(told) and (told[at + 1][1] - worth).is_at_most(room):
+        room, wide = told[at + 1][1] - worth, False
+    step = room * Ratio(stream.randint(1, 4 if wide else 3), 4)
+    return told[:at] + [(chance.over(2), worth - step), (chance.over(2), worth + step)] + told[at + 1:]

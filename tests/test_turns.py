@@ -3,7 +3,7 @@
 import itertools
 import unittest
 
-from equations import plain, plains, solve
+from equations import plain, plains, told_error
 from kinds import apart, backed, chances, even_pairs, even_walk, function, halves, lean, like_pairs, lists, made, mixed_walk
 from kinds import any_walk, not_integers, not_lists, not_numbers, ring_walk, stayed, turn, walks, whole_walk
 from refusals import assert_pure, assert_ratios, assert_refusals, assert_refused, assert_same_by_name, assert_unlike
@@ -23,17 +23,6 @@ WRONG_PARTS = not_numbers() + [1, Ratio(1), Ratio(5, 5), -1, 2, Ratio(-1, 9), Ra
 
 def less(rows, others):
     return [[one - two for one, two in zip(*both)] for both in zip(rows, others)]
-
-
-def told_error(rows, shares, worths):
-    """By what the walk is ahead by: the mean of the square of how far each step strays from what is expected."""
-    places = range(len(rows))
-    middle = sum(share * number for share, number in zip(shares, worths))
-    # One equation follows from the others: that the mean is 0 stands in its place.
-    even = [[int(i == j) - rows[i][j] for j in places] for i in places]
-    ahead = solve(even[:-1] + [shares], [number - middle for number in worths[:-1]] + [0])
-    nexts = [sum(rows[i][j] * ahead[j] for j in places) for i in places]
-    return sum(shares[i] * rows[i][j] * (ahead[j] - nexts[i]) ** 2 for i in places for j in places)
 
 
 def in_turn(walk, other):
