@@ -7,6 +7,7 @@ from surerwalks.ratios import Ratio, is_number, ratio_of
 
 # Numbers of at most so many bits have at most 2,000 digits.
 SHORT_BITS = 6643
+DIGITS = "0123456789"
 
 
 def is_list(value):
@@ -46,6 +47,34 @@ def places_of(value, many):
     if not all([0 <= place < many for place in value]):
         return None
     return list(value) if len(set(value)) == len(value) else None
+
+
+def copied(value):
+    """The same with new lists and tuples."""
+    if isinstance(value, list):
+        return [copied(part) for part in value]
+    if isinstance(value, tuple):
+        return tuple([copied(part) for part in value])
+    return value
+
+
+def count_in(word):
+    """The COUNT that is written so, None of any other word."""
+    if word == "" or any([sign not in DIGITS for sign in word]):
+        return None
+    return int(word) if word == "0" or word[0] != "0" else None
+
+
+def number_in(word):
+    """The NUMBER that is written so, as a Ratio, None of any other word."""
+    top, stroke, bottom = word.partition("/")
+    high = count_in(top[1:] if top.startswith("-") else top)
+    low = count_in(bottom) if stroke else 1
+    if high is None or low is None or low == 0:
+        return None
+    number = Ratio(-high if top.startswith("-") else high, low)
+    # What is not in lowest terms, and a needless sign or stroke, is written otherwise.
+    return number if str(number) == word else None
 
 
 def unit_rows(many):

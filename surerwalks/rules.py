@@ -14,10 +14,18 @@ def proposal_of(value):
     return rows
 
 
-def weights_of(value, many):
-    """The weights of so many places, as Ratios; others are refused."""
+def weight_numbers(value, many):
+    """The weights of so many places, as Ratios, None of any other value."""
     weights = numbers_of(value, many)
     if weights is None or any([weight.sign <= 0 for weight in weights]):
+        return None
+    return weights
+
+
+def weights_of(value, many):
+    """The same; others are refused."""
+    weights = weight_numbers(value, many)
+    if weights is None:
         raise InvalidWeights(value)
     return weights
 
@@ -39,13 +47,21 @@ def _flows_of(proposal, weights):
     return _flows(rows, weights_of(weights, len(rows)))
 
 
-def _as_rule(value, flows):
-    """The rows of a rule for the flows proposed, None of any other value."""
-    many = len(flows)
+def taken_rows(value, many):
+    """So many rows of as many NUMBERS from 0 to 1, as Ratios, None of any other value."""
     taken = square_of(value, many, many)
     if taken is None:
         return None
     if any([number.sign < 0 or Ratio(1).is_below(number) for row in taken for number in row]):
+        return None
+    return taken
+
+
+def _as_rule(value, flows):
+    """The rows of a rule for the flows proposed, None of any other value."""
+    many = len(flows)
+    taken = taken_rows(value, many)
+    if taken is None:
         return None
     alike = [flows[i][j] * taken[i][j] == flows[j][i] * taken[j][i] for i in range(many) for j in range(i)]
     return taken if all(alike) else None

@@ -239,3 +239,29 @@ def more_spread(stream, told):
         room, wide = told[at + 1][1] - worth, False
     step = room * Ratio(stream.randint(1, 4 if wide else 3), 4)
     return told[:at] + [(chance.over(2), worth - step), (chance.over(2), worth + step)] + told[at + 1:]
+
+
+def samples():
+    """For each sort of written forms values of it: the least and the greatest, of whole and of other numbers."""
+    stream = made(601)
+    half, long = Ratio(1, 2), Ratio(10 ** 300 + 1, 3 * 10 ** 299)
+    far = [(Ratio(1, 4), 0), (Ratio(1, 4), half), (Ratio(1, 4), 1), (Ratio(1, 4), Ratio(5, 2))]
+    return {
+        "numbers": [[], [0], [-7], [long, -long], [1, Ratio(-3, 2), Ratio(4, 2)], list(range(60)), [Ratio(-1, 7)] * 60],
+        "function": [[0, 0], [half, -3], [long, 1], function(stream, 6), [-1, 0, 1, 2, 3, 4]],
+        "table": [[[0]], [[-half]], [[1, 2], [3, 4]], [[long, 0], [-1, half]], [[ratio(stream) for _ in range(12)] for _ in range(12)]],
+        "walk": [halves(), lean(), turn(), apart(), ring_walk(6), whole_walk(stream, 6), any_walk(stream, 5)],
+        "proposal": [[[1, 0], [0, 1]], [[half, half], [0, 1]], proposal(stream, 6), [[0] * 5 + [1]] * 6, proposal(stream, 3)],
+        "guess": [[(1, 1)], [(half, 0), (half, 2)], far, [(Ratio(1, 3), Ratio(1, 3)), (Ratio(2, 3), Ratio(4, 3))],
+                  [(Ratio(1), Ratio(1))], guess(stream)],
+        "grid": [[[1, 2], [3, 4]], [[half, 1, 7], [1, long, 2]], [[1, 1], [half, Ratio(1, 9)], [5, 5]], [[1, 1], [1, 1]]],
+    }
+
+
+def retold(value):
+    """The same with a Ratio for each number."""
+    if isinstance(value, list):
+        return [retold(part) for part in value]
+    if isinstance(value, tuple):
+        return tuple(retold(part) for part in value)
+    return value if isinstance(value, (Walk, str)) else Ratio(0) + value
