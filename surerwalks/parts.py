@@ -9,14 +9,13 @@ from surerwalks.strays import error_table
 from surerwalks.walks import Walk, mixed, then
 
 LEAST_PARTS = 2
-MOST_PARTS = 3
 MOST_PAIRS = 6
 
 
 def are_sides(rows, columns):
     """Whether a grid may have so many rows and columns."""
-    short = min(rows, columns) >= LEAST_PARTS and max(rows, columns) <= MOST_PARTS
-    return short and rows * columns <= MOST_PAIRS
+    # So neither are there more than three of them.
+    return min(rows, columns) >= LEAST_PARTS and rows * columns <= MOST_PAIRS
 
 
 def grid_of(value):

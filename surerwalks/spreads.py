@@ -80,11 +80,9 @@ def _plainest(low, high):
         wholes.append(whole)
         low, high = Ratio(1).over(high - whole), Ratio(1).over(low - whole)
         whole = low.top // low.bottom
-    if (high - whole).is_at_most(1):
-        rest = Ratio(1).over(high - whole)
-        found = whole + Ratio(1, rest.top // rest.bottom + 1)
-    else:
-        found = Ratio(whole + 1)
+    rest = Ratio(1).over(high - whole)
+    # The nearest whole number above, if it lies between.
+    found = whole + Ratio(1, rest.top // rest.bottom + 1)
     for whole in wholes[::-1]:
         found = whole + Ratio(1).over(found)
     return found
@@ -154,7 +152,7 @@ def _block(chance, worth, left, worths, low, high):
 def is_splitting(guess, other, value):
     """Whether any value is a splitting."""
     parts, others = _parts_of(guess), _parts_of(other)
-    if not is_list(value) or len(value) != len(parts):
+    if not is_list(value):
         return False
     rows = [chances_of(row, len(others)) for row in value]
     if any([row is None for row in rows]):

@@ -6,7 +6,7 @@ import unittest
 
 from equations import plain, plains
 from kinds import Own, any_walk, apart, backed, drawn, even_pairs, guess, halves, lean, like_pairs, lists, made, more_spread
-from kinds import not_lists, proposals, ring_walk, stayed, turn, whole_walk
+from kinds import not_lists, proposals, ring_walk, turn, whole_walk
 from refusals import assert_ratios, assert_refused, spoil, tupled
 from surerwalks.claims import contrary, is_claim, is_paper_of, is_true, paper_of, words
 from surerwalks.errors import InvalidClaim

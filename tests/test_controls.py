@@ -3,7 +3,7 @@
 import itertools
 import unittest
 
-from equations import plain, plains
+from equations import plains
 from kinds import Own, any_walk, apart, digits, function, halves, lean, lists, made, not_lists, ratio, ring_walk, six_digits
 from kinds import turn, walks
 from refusals import assert_pure, assert_ratios, assert_refusals, assert_refused, assert_same_by_name, tupled
@@ -15,7 +15,6 @@ from surerwalks.walks import Walk, is_whole
 
 HALF = Ratio(1, 2)
 NOT_WALKS = not_lists()[:-1] + lists()
-ALL = [controlled, best_numbers, best_error]
 
 
 def told_control(walk, worths):

@@ -444,6 +444,10 @@ class TestThings(unittest.TestCase):
         self.assertIs("w" in desk, True)
         self.assertEqual(desk.claim_of(label="k"), ("surer", SWAP, EVEN))
 
+    def test_not_iterated(self):
+        with self.assertRaises(TypeError):
+            list(filled())
+
     def test_kinds(self):
         desk = filled()
         self.assertEqual(desk["t"], [(HALF, Ratio(0)), (HALF, Ratio(2))])

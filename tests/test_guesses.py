@@ -4,7 +4,7 @@ import itertools
 import unittest
 
 from equations import plain, plains, told_error
-from kinds import Own, function, guess, lean, lists, made, more_spread, not_lists, proposals, weights
+from kinds import Own, function, guess, lean, lists, made, more_spread, not_lists, proposals
 from refusals import assert_pure, assert_ratios, assert_refusals, assert_refused, assert_same_by_name, tupled
 from surerwalks.errors import InvalidGuesses, InvalidProposal, InvalidWeights, NotWhole, TooMany
 from surerwalks.forms import is_never_below, worth

@@ -6,13 +6,12 @@ from desks import FILL, filled, picture, repeated
 from kinds import Own, lean, lists, made, not_lists
 from refusals import assert_refused, spoil, tupled
 from surerwalks import errors
-from surerwalks.claims import contrary, is_claim, is_paper_of, is_true, paper_of
+from surerwalks.claims import contrary, is_claim, is_true, paper_of
 from surerwalks.desk import Desk, Trial, tried
 from surerwalks.errors import CommandFailed, InvalidCommand, InvalidDeeds, InvalidPaper, NameTaken, NotWhole, NothingToRedo
 from surerwalks.errors import NothingToUndo, TooMany, UnknownLabel, UnknownName
 from surerwalks.ratios import Ratio
 
-HALF = Ratio(1, 2)
 OWN_ERRORS = (errors.WalkError, errors.MissingError, errors.StateError, errors.LimitError)
 
 

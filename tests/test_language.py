@@ -144,6 +144,44 @@ class TestStatements(unittest.TestCase):
                     self.assertIn(node, counted, f"{path}:{node.lineno}")
 
 
+    def test_handlers_and_blocks(self):
+        """Own errors alone are caught; a block of `with` restores what it changed by assignments alone."""
+        own = {node.name for node in ast.parse((PACKAGE / "errors.py").read_text()).body if isinstance(node, ast.ClassDef)}
+        for place, node in nodes(ast.ExceptHandler):
+            caught = node.type.elts if isinstance(node.type, ast.Tuple) else [node.type]
+            self.assertLessEqual({name.id for name in caught}, own, place)
+        for place, node in nodes(ast.Try):
+            self.assertFalse(node.finalbody or node.orelse, place)
+        for place, node in nodes(ast.FunctionDef):
+            if node.name == "__exit__":
+                self.assertTrue(all(isinstance(line, ast.Assign) for line in node.body), place)
+        for place, node in nodes(ast.ClassDef):
+            names = {part.name for part in node.body if isinstance(part, ast.FunctionDef)}
+            self.assertTrue("__getitem__" not in names or "__iter__" in names, place)
+
+    def test_stars(self):
+        """Behind a star in a call stands a name; behind two in a dict a name or an attribute off one."""
+        for place, node in nodes(ast.Call):
+            for part in node.args:
+                if isinstance(part, ast.Starred):
+                    self.assertIsInstance(part.value, ast.Name, place)
+            self.assertTrue(all(part.arg is not None for part in node.keywords), place)
+        for place, node in nodes(ast.Dict):
+            for key, value in zip(node.keys, node.values):
+                if key is None:
+                    self.assertTrue(isinstance(getattr(value, "value", value), ast.Name), place)
+
+    def test_module_level(self):
+        """Values are plain; lists and dicts contain neither lists nor dicts."""
+        plain = (ast.Constant, ast.Tuple, ast.Dict, ast.List, ast.Load, ast.UnaryOp, ast.USub)
+        for path, tree in trees():
+            for node in tree.body:
+                if isinstance(node, ast.Assign):
+                    inner = list(ast.walk(node.value))
+                    self.assertTrue(all(isinstance(part, plain) for part in inner), path)
+                    self.assertFalse([part for part in inner[1:] if isinstance(part, (ast.Dict, ast.List))], path)
+
+
 class TestNames(unittest.TestCase):
     def test_builtins_and_methods(self):
         own = {node.name for _, node in nodes(ast.FunctionDef)}

@@ -18,6 +18,7 @@ FAR = [(THIRD, 0), (Ratio(2, 3), Ratio(3, 2))]
 FOUR = [(Ratio(1, 4), 0), (Ratio(1, 4), HALF), (Ratio(1, 4), 1), (Ratio(1, 4), Ratio(5, 2))]
 WRONG_GUESSES = not_lists() + lists() + [
     [(1, 1), (0, 2)], [(HALF, 1), (HALF, 1)], [(HALF, 2), (HALF, 0)], [(HALF, 0), (HALF, 1)], [(1, 2)], [(2, 1)],
+    [(HALF, 2)], [(2, HALF)], [(1, HALF), (HALF, 1)], [(Ratio(1, 4), 1), (Ratio(1, 4), 3)],
     [(HALF, 0), (HALF, Ratio(3, 2))], [(HALF, -1), (HALF, 3)], [(-1, 0), (2, HALF)], [[1, 1]], [[HALF, 0], [HALF, 2]], (1, 1),
     [(HALF, 0), [HALF, 2]], [(True, 1)], [(1, True)], [(1,)], [(1, 1, 1)], [(1, 1), None], [(1, "1")], [(HALF, 1)], [()],
     [(Ratio(1, 5), Ratio(k, 2)) for k in range(5)], {(1, 1): 1}, {0: (1, 1)}, "11", [((1, 1),)], [(1, Own())], [Own()], [(1, [1])],
@@ -151,6 +152,20 @@ class TestSpreads(unittest.TestCase):
                 met += 1
                 self.assertLessEqual(digits(splitting(*told)), 2000)
                 self.assert_pair(*told)
+
+    def test_hinges_are_plain(self):
+        """No fraction with a lesser bottom is a hinge."""
+        met = 0
+        for one, two in pairs(250, 40):
+            at = hinge(one, two)
+            for bottom in range(1, at.bottom if at is not None else 1):
+                met += 1
+                most = max(plain(worth) for _, worth in one)
+                tops = range(int(most * bottom) + 1)
+                self.assertFalse(any(is_hinge(one, two, Ratio(top, bottom)) for top in tops))
+        self.assertGreater(met, 20)
+        few = [(Ratio(1, 10), 0), (Ratio(9, 10), Ratio(10, 9))]
+        self.assertEqual(hinge(few, TWO).bottom, 2)
 
     def test_hinges_are_short(self):
         """Whatever digits the worths have, numbers near to them do as well."""
